@@ -1,0 +1,1 @@
+"""Stones that surround: a game of stones, strings and breaths, asked by calls."""
