@@ -8,7 +8,7 @@ BLACK = 1
 WHITE = 2
 
 
-# The counts are apart, since stones that take themselves may be refused.
+# The counts are apart, since stones that take themselves may be refused, and are the other's points.
 class Outcome:
     def __init__(self, board, others_taken, own_taken):
         self.board = board
@@ -38,7 +38,8 @@ def sides_of_all(size):
     return [beside(size, place) for place in range(size * size)]
 
 
-def string_of(board, sides, place):
+# Of a stone it is the string, of an empty place the empty places that hang together with it.
+def part_of(board, sides, place):
     colour = board[place]
     found = {place: True}
     waiting = [place]
@@ -48,8 +49,19 @@ def string_of(board, sides, place):
             if board[side] == colour and side not in found:
                 found[side] = True
                 waiting.append(side)
-    # Places are answered rising.
-    return sorted(found)
+    return list(found)
+
+
+def parts_of(board, sides, colour):
+    parts = []
+    looked_at = {}
+    for place, there in enumerate(board):
+        if there == colour and place not in looked_at:
+            part = part_of(board, sides, place)
+            parts.append(part)
+            for member in part:
+                looked_at[member] = True
+    return parts
 
 
 def breaths_of(board, sides, string):
@@ -62,23 +74,30 @@ def breaths_of(board, sides, string):
     return list(found)
 
 
+# Apart from part_of and breaths_of, since it is asked most, and nearly always ends at a first breath.
+def string_without_breath(board, sides, place):
+    colour = board[place]
+    found = {place: True}
+    waiting = [place]
+    while waiting:
+        here = waiting.pop()
+        for side in sides[here]:
+            if board[side] == EMPTY:
+                return []
+            if board[side] == colour and side not in found:
+                found[side] = True
+                waiting.append(side)
+    return list(found)
+
+
 def all_strings_breathe(board, sides):
-    looked_at = {}
-    for place, colour in enumerate(board):
-        if colour != EMPTY and place not in looked_at:
-            string = string_of(board, sides, place)
-            if not breaths_of(board, sides, string):
-                return False
-            for stone in string:
-                looked_at[stone] = True
-    return True
+    strings = parts_of(board, sides, BLACK) + parts_of(board, sides, WHITE)
+    return not any([string_without_breath(board, sides, string[0]) for string in strings])
 
 
 # Changes the board, which must be a list of the caller's own; answers how many stones went.
 def take_if_breathless(board, sides, place):
-    string = string_of(board, sides, place)
-    if breaths_of(board, sides, string):
-        return 0
+    string = string_without_breath(board, sides, place)
     for stone in string:
         board[stone] = EMPTY
     return len(string)
@@ -88,10 +107,11 @@ def take_if_breathless(board, sides, place):
 def put(board, sides, colour, place):
     changed = list(board)
     changed[place] = colour
+    other = other_colour(colour)
     others_taken = 0
     for side in sides[place]:
         # A string beside the stone twice is gone by the second look, and so is counted once.
-        if changed[side] == other_colour(colour):
+        if changed[side] == other:
             others_taken += take_if_breathless(changed, sides, side)
     own_taken = take_if_breathless(changed, sides, place)
     return Outcome(tuple(changed), others_taken, own_taken)

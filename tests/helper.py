@@ -40,15 +40,61 @@ def string(x, y):
     return [8, x, y]
 
 
-def split(told):
+def may(colour):
+    return [9, colour]
+
+
+def mark(x, y):
+    return [10, x, y]
+
+
+def score(how):
+    return [11, how]
+
+
+def safe(colour):
+    return [12, colour]
+
+
+def caught(x, y, turns):
+    return [13, x, y, turns]
+
+
+def read(record, suicide=0):
+    """A record is a text, a sign for each byte, or a list of bytes."""
+    numbers = [ord(sign) for sign in record] if isinstance(record, str) else list(record)
+    return [14, suicide, len(numbers)] + numbers
+
+
+def told():
+    return [15]
+
+
+def turns():
+    return [16]
+
+
+def told_text(answer):
+    """What told answers, as a text."""
+    if answer[0] != len(answer) - 1:
+        raise ValueError("the count does not fit the bytes: %r" % answer)
+    return "".join(chr(byte) for byte in answer[1:])
+
+
+def places(picture, sign):
+    """The places of a picture that hold a sign, rising."""
+    return [place for place, found in enumerate("".join(picture.split())) if found == sign]
+
+
+def split(numbers):
     """The answers one by one, without the counts before them."""
     found = []
     at = 0
-    while at < len(told):
-        end = at + 1 + told[at]
-        if told[at] < 1 or end > len(told):
-            raise ValueError("a count does not fit what is answered: %r" % told)
-        found.append(told[at + 1:end])
+    while at < len(numbers):
+        end = at + 1 + numbers[at]
+        if numbers[at] < 1 or end > len(numbers):
+            raise ValueError("a count does not fit what is answered: %r" % numbers)
+        found.append(numbers[at + 1:end])
         at = end
     return found
 

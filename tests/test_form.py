@@ -122,6 +122,107 @@ class Form(unittest.TestCase):
             if isinstance(node.func, ast.Attribute):
                 self.assertIn(node.func.attr, own + METHODS_OF_PYTHON, (name, node.lineno))
 
+    def test_the_top_of_each_file(self):
+        for name, tree in trees():
+            bound = []
+            for node in tree.body:
+                if isinstance(node, ast.Expr):
+                    self.assertIs(node, tree.body[0], (name, node.lineno))
+                    self.assertIsInstance(node.value.value, str, name)
+                elif isinstance(node, ast.Assign):
+                    bound.append(node.targets[0].id)
+                    ast.literal_eval(node.value)
+                elif isinstance(node, ast.ImportFrom):
+                    bound.extend(alias.name for alias in node.names)
+                else:
+                    self.assertIsInstance(node, (ast.FunctionDef, ast.ClassDef), (name, node.lineno))
+                    bound.append(node.name)
+            self.assertEqual(len(bound), len(set(bound)), name)
+
+    def test_locals_are_not_called_like_an_import_or_a_class(self):
+        for name, tree in trees():
+            taken = [alias.name for node in tree.body if isinstance(node, ast.ImportFrom) for alias in node.names]
+            taken += [node.name for node in tree.body if isinstance(node, ast.ClassDef)]
+            for node in ast.walk(tree):
+                if isinstance(node, ast.arg):
+                    self.assertNotIn(node.arg, taken, (name, node.lineno))
+                if isinstance(node, ast.Name) and isinstance(node.ctx, ast.Store):
+                    self.assertNotIn(node.id, taken, (name, node.lineno))
+
+    def test_imports_come_from_where_a_name_is_defined_and_do_not_go_round(self):
+        drawn = {}
+        for name, tree in trees():
+            drawn[name] = []
+            for node in tree.body:
+                if isinstance(node, ast.ImportFrom):
+                    source = node.module.split(".")[-1] + ".py"
+                    drawn[name].append(source)
+                    top = dict(trees())[source].body
+                    defined = [n.name for n in top if isinstance(n, (ast.FunctionDef, ast.ClassDef))]
+                    defined += [n.targets[0].id for n in top if isinstance(n, ast.Assign)]
+                    for alias in node.names:
+                        self.assertIn(alias.name, defined, (name, source))
+        left = dict(drawn)
+        while left:
+            free = [name for name in left if not any(source in left for source in left[name])]
+            self.assertNotEqual(free, [], left)
+            left = {name: sources for name, sources in left.items() if name not in free}
+
+    def test_each_import_is_used(self):
+        for name, tree in trees():
+            used = [node.id for node in ast.walk(tree) if isinstance(node, ast.Name)]
+            for node in tree.body:
+                if isinstance(node, ast.ImportFrom):
+                    for alias in node.names:
+                        self.assertIn(alias.name, used, name)
+
+    def test_no_name_is_a_method_and_a_value(self):
+        methods = {n.name for name, node in nodes(ast.ClassDef) for n in node.body if isinstance(n, ast.FunctionDef)}
+        given = {node.attr for name, node in nodes(ast.Attribute) if isinstance(node.ctx, ast.Store)}
+        self.assertEqual(methods & given, set())
+        barred = {attr for kind in (str, int, list, dict, set, bytes) for attr in dir(kind)} | {"args"}
+        self.assertEqual(given & barred, set())
+        self.assertEqual(methods & barred - {"__init__"}, set())
+
+    def test_class_bodies(self):
+        for name, node in nodes(ast.ClassDef):
+            self.assertEqual(node.decorator_list, [], name)
+            for part in node.body:
+                self.assertIsInstance(part, (ast.FunctionDef, ast.Pass), (name, part.lineno))
+
+    def test_walks_are_not_kept(self):
+        for name, node in nodes((ast.Assign, ast.Return)):
+            value = node.value
+            if isinstance(value, ast.Call):
+                called = value.func.id if isinstance(value.func, ast.Name) else value.func.attr
+                self.assertNotIn(
+                    called, ("range", "zip", "enumerate", "reversed", "items", "keys", "values"), (name, node.lineno)
+                )
+
+    def test_is_stands_beside_none_alone(self):
+        for name, node in nodes(ast.Compare):
+            for sign, right in zip(node.ops, node.comparators):
+                if isinstance(sign, (ast.Is, ast.IsNot)):
+                    self.assertIsInstance(right, ast.Constant, (name, node.lineno))
+                    self.assertIn(right.value, (None, True, False), (name, node.lineno))
+
+    def test_errors_are_the_programs_own(self):
+        own = [node.name for name, node in nodes(ast.ClassDef)]
+        for name, node in nodes(ast.ExceptHandler):
+            self.assertIn(node.type.id, own, (name, node.lineno))
+        for name, node in nodes(ast.Raise):
+            self.assertIn(node.exc.func.id, own, (name, node.lineno))
+
+    def test_texts_have_no_percent_sign(self):
+        for name, node in nodes(ast.Constant):
+            if isinstance(node.value, str):
+                self.assertNotIn("%", node.value, (name, node.lineno))
+
+    def test_comprehensions_have_one_for_and_one_if(self):
+        for name, node in nodes(ast.ListComp):
+            self.assertEqual(len(node.generators), 1, (name, node.lineno))
+            self.assertLessEqual(len(node.generators[0].ifs), 1, (name, node.lineno))
+
 
 if __name__ == "__main__":
     unittest.main()
