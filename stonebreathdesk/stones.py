@@ -74,20 +74,13 @@ def breaths_of(board, sides, string):
     return list(found)
 
 
-# Apart from part_of and breaths_of, since it is asked most, and nearly always ends at a first breath.
+# Nothing if it has one.
 def string_without_breath(board, sides, place):
-    colour = board[place]
-    found = {place: True}
-    waiting = [place]
-    while waiting:
-        here = waiting.pop()
-        for side in sides[here]:
-            if board[side] == EMPTY:
-                return []
-            if board[side] == colour and side not in found:
-                found[side] = True
-                waiting.append(side)
-    return list(found)
+    # Most stones have a breath of their own: then the string needn't be walked.
+    if any([board[side] == EMPTY for side in sides[place]]):
+        return []
+    string = part_of(board, sides, place)
+    return [] if breaths_of(board, sides, string) else string
 
 
 def all_strings_breathe(board, sides):

@@ -12,7 +12,7 @@ def nested(trees):
     return "(;" * trees + ")" * trees
 
 
-class Trees(unittest.TestCase):
+class Checked(unittest.TestCase):
     def are_records(self, *records):
         for record in records:
             self.assertGreaterEqual(last(read(record))[0], 0, record)
@@ -21,6 +21,8 @@ class Trees(unittest.TestCase):
         for record in records:
             self.assertEqual(last(read(record)), NO_RECORD, record)
 
+
+class Trees(Checked):
     def test_the_least_record(self):
         self.assertEqual(last(read("(;)")), [0])
 
@@ -79,15 +81,7 @@ class Trees(unittest.TestCase):
             self.are_none(sign * 20000, "(;" + sign * 20000)
 
 
-class Nodes(unittest.TestCase):
-    def are_records(self, *records):
-        for record in records:
-            self.assertGreaterEqual(last(read(record))[0], 0, record)
-
-    def are_none(self, *records):
-        for record in records:
-            self.assertEqual(last(read(record)), NO_RECORD, record)
-
+class Nodes(Checked):
     def test_nodes_without_properties(self):
         self.are_records("(;;;)", "(;;B[aa];;)")
 
