@@ -277,16 +277,24 @@ class SlowGame:
         stones = self.boards()[-1]
         if (x, y) not in stones:
             return [-1]
-        return [int(self.is_caught(stones, (x, y), turns))]
+        return [int(self.is_caught(stones, (x, y), turns, {}))]
 
-    def is_caught(self, stones, place, turns):
+    def is_caught(self, stones, place, turns, known):
+        """What is known of just this board and this number of turns is not asked again."""
+        asked = (frozenset(stones.items()), turns)
+        if asked not in known:
+            known[asked] = self.find_caught(stones, place, turns, known)
+        return known[asked]
+
+    def find_caught(self, stones, place, turns, known):
         breaths = self.breaths(stones, self.string(stones, place))
         if turns == 0 or len(breaths) > 2:
             return False
         tried = [self.put(stones, 3 - stones[place], breath) for breath in breaths]
-        return any(self.has_no_way(behind, place, stones[place], turns) for behind, own_taken in tried if not own_taken)
+        colour = stones[place]
+        return any(self.has_no_way(behind, place, colour, turns, known) for behind, own_taken in tried if not own_taken)
 
-    def has_no_way(self, stones, place, colour, turns):
+    def has_no_way(self, stones, place, colour, turns, known):
         if place not in stones:
             return True
         string = self.string(stones, place)
@@ -297,7 +305,7 @@ class SlowGame:
             last_breaths = self.breaths(stones, self.string(stones, chaser))
             ways = ways | last_breaths if len(last_breaths) == 1 else ways
         tried = [self.put(stones, colour, way) for way in ways]
-        return all(self.is_caught(behind, place, turns - 1) for behind, own_taken in tried if not own_taken)
+        return all(self.is_caught(behind, place, turns - 1, known) for behind, own_taken in tried if not own_taken)
 
     def read(self, suicide, text):
         if suicide not in (0, 1):
@@ -396,8 +404,7 @@ def some_call(chance, size):
     if kind == 11:
         return [11, chance.choice([0, 1] * 10 + [-1, 2])]
     if kind == 13:
-        # More turns would take the slow game too long.
-        return [13] + some_place(chance, size) + [chance.choice([0, 1, 2, 3, 4, 4, 4, -1, 41])]
+        return [13] + some_place(chance, size) + [chance.choice([0, 1, 2, 3, 4, 8, 20, 40, -1, 41])]
     if kind == 14:
         record = some_record(chance, size)
         return [14, chance.choice([0, 0, 0, 1, 1, 2]), len(record)] + [ord(sign) for sign in record]
@@ -508,7 +515,7 @@ class AgainstTheSlowGame(unittest.TestCase):
             for lay in range(chance.choice([1, 2, 3]) * size * size // 2):
                 calls.append([2, chance.choice([1, 2])] + [chance.randrange(size), chance.randrange(size)])
             for x in range(size):
-                calls += [[13, x, y, chance.choice([1, 2, 3])] for y in range(size)]
+                calls += [[13, x, y, chance.choice([1, 2, 3, 10, 40])] for y in range(size)]
             lines.append(calls + [[12, 1], [12, 2], [9, 1], [9, 2], [11, 0], [11, 1]])
         seen = self.check(lines)
         self.assertIn((13, 1), seen)
