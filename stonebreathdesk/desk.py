@@ -3,6 +3,7 @@
 Each call answers a list of whole numbers; a refusal is one number below 0, and changes nothing.
 """
 
+from stonebreathdesk.chase import MOST_CHASED
 from stonebreathdesk.chase import is_caught_in
 from stonebreathdesk.game import Game
 from stonebreathdesk.game import PASS
@@ -32,7 +33,6 @@ from stonebreathdesk.stones import part_of
 from stonebreathdesk.telling import record_of
 
 MOST_BYTES = 65536
-MOST_CHASED = 40
 
 
 def new_game(size, komi, suicide):
@@ -150,7 +150,7 @@ class Desk:
         refusal = self.refusal_at(x, y)
         if refusal != 0:
             return [refusal]
-        is_caught = is_caught_in(self.game.board_now(), self.game.sides, self.place_at(x, y), turns)
+        is_caught = is_caught_in(self.game.board_now(), self.game.size, self.place_at(x, y), turns)
         return [1 if is_caught else 0]
 
     def read(self, suicide, record):
